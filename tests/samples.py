@@ -1,0 +1,78 @@
+"""Tallies of the document, made-up ones, and values of all kinds for the tests."""
+
+import random
+
+from tallyhouse.tallies import Tally
+
+ONES = Tally("01", (1, 0), (((1, 0), (0, 1)), ((1, 1), (0, 1))), (0, 1))
+VALUE = Tally("01", (1, 0), (((1, 0), (0, 2)), ((1, 1), (0, 2))), (0, 1))
+EMPTY = Tally("01", (), ((), ()), ())
+
+# Things that are no digits, tickets, rows, texts or papers of anything.
+ODDITIES = (
+    None, True, False, 0, 1, -1, 10 ** 39, "x", " ", "\n", "~", "a b", (), (1,), ("0",), ("",), (True,), (None,),
+    ((),), [], ["0"], [1, 2], {}, {"0": 1}, {1: [2]}, ONES, EMPTY, [ONES], (ONES, VALUE), ((0, 1), (1, 0)),
+    [((0,),)], {"a": (1, [2, {"b": None}])}, ("same",), ("apart",), ("apart", None), ("same", None), ("same", [[1]]),
+)
+
+
+def brute_roll(digits, length):
+    """All tickets of a roll, made one by one."""
+    if length == 0:
+        return [""]
+    return [ticket + digit for ticket in brute_roll(digits, length - 1) for digit in digits]
+
+
+def brute_tickets(digits, longest):
+    """All tickets of at most so many digits, in order."""
+    return [ticket for length in range(longest + 1) for ticket in brute_roll(digits, length)]
+
+
+def brute_worth(tally, ticket):
+    """The worth, by the words of the document."""
+    row = list(tally.start)
+    for digit in ticket:
+        table = tally.tables[tally.digits.index(digit)]
+        row = [sum(row[k] * table[k][j] for k in range(len(row))) for j in range(len(row))]
+    return sum(a * b for a, b in zip(row, tally.ends))
+
+
+def made_up_tally(seed, digits="01", size=3, low=-2, high=2, thin=0.5):
+    """A tally with numbers from low to high, many of them 0."""
+    chance = random.Random(seed)
+
+    def number():
+        return 0 if chance.random() < thin else chance.randint(low, high)
+
+    def row():
+        return tuple(number() for _ in range(size))
+
+    tables = tuple(tuple(row() for _ in range(size)) for _ in digits)
+    return Tally(digits, tuple(chance.randint(low, high) for _ in range(size)), tables,
+                 tuple(chance.randint(low, high) for _ in range(size)))
+
+
+def spoiled(thing, chance):
+    """A value like another one, with something otherwise."""
+    if isinstance(thing, tuple) and thing and chance.random() < 0.9:
+        place = chance.randrange(len(thing))
+        kind = chance.random()
+        if kind < 0.6:
+            return thing[:place] + (spoiled(thing[place], chance),) + thing[place + 1:]
+        if kind < 0.7:
+            return thing[:place] + thing[place + 1:]
+        if kind < 0.8:
+            return thing + (thing[place],)
+        if kind < 0.9:
+            other = chance.randrange(len(thing))
+            parts = list(thing)
+            parts[place], parts[other] = parts[other], parts[place]
+            return tuple(parts)
+        return list(thing)
+    if isinstance(thing, bool):
+        return int(thing) if chance.random() < 0.5 else not thing
+    if isinstance(thing, int):
+        return chance.choice((thing + 1, thing - 1, -thing, str(thing), None, thing == 1, 10 ** 39, 2 * thing))
+    if isinstance(thing, str):
+        return chance.choice((thing + "0", thing[1:], thing + "x", None, 0, (), thing[::-1], " "))
+    return chance.choice((None, 0, "", ()))

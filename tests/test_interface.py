@@ -1,0 +1,58 @@
+"""Whether all that DOC.md lists is there: where it is listed, with these parameters, by these names."""
+
+import ast
+import importlib
+import inspect
+import pathlib
+import unittest
+
+FOLDER = pathlib.Path(__file__).parent.parent / "tallyhouse"
+
+FUNCTIONS = {
+    "tickets": {"are_digits": "thing", "is_ticket": "digits thing", "roll": "digits length", "is_ahead": "one other"},
+    "making": {"added": "one other", "lessened": "one other", "multiplied": "one other", "met": "one other",
+               "times": "number tally", "turned": "tally", "ahead": "tally ticket", "behind": "tally ticket",
+               "nought": "digits", "lone": "digits ticket"},
+}
+CLASSES = {
+    "tallies": {"Tally": {"__init__": "self digits start tables ends", "__len__": "self", "__eq__": "self other",
+                          "__str__": "self", "read": "cls text", "row": "self ticket", "worth": "self ticket",
+                          "table": "self ticket", "is_count": "self"}},
+    "pieces": {"Piece": {"__init__": "self tally ticket", "joined": "self other", "__len__": "self",
+                         "__eq__": "self other", "led": "self row", "worth_now": "self"}},
+}
+
+
+def parameters(node):
+    return " ".join(argument.arg for argument in node.args.args)
+
+
+def definitions(body, kind):
+    return {node.name: node for node in body if isinstance(node, kind)}
+
+
+class InterfaceTest(unittest.TestCase):
+    def test_functions(self):
+        for name, functions in FUNCTIONS.items():
+            found = definitions(ast.parse((FOLDER / f"{name}.py").read_text()).body, ast.FunctionDef)
+            module = importlib.import_module(f"tallyhouse.{name}")
+            for function, words in functions.items():
+                self.assertEqual(parameters(found[function]), words, f"{name}.{function}")
+                self.assertEqual(getattr(module, function).__module__, module.__name__)
+
+    def test_classes(self):
+        for name, classes in CLASSES.items():
+            found = definitions(ast.parse((FOLDER / f"{name}.py").read_text()).body, ast.ClassDef)
+            for word, methods in classes.items():
+                inner = definitions(found[word].body, ast.FunctionDef)
+                for method, words in methods.items():
+                    self.assertEqual(parameters(inner[method]), words, f"{name}.{word}.{method}")
+                self.assertEqual(found[word].bases, [])
+
+    def test_objects_are_not_iterated_over_and_have_properties(self):
+        tally = importlib.import_module("tallyhouse.tallies").Tally
+        piece = importlib.import_module("tallyhouse.pieces").Piece
+        self.assertFalse(hasattr(tally, "__iter__") or hasattr(piece, "__iter__"))
+        self.assertIsInstance(inspect.getattr_static(tally, "is_count"), property)
+        self.assertIsInstance(inspect.getattr_static(piece, "worth_now"), property)
+        self.assertIsInstance(inspect.getattr_static(tally, "read"), classmethod)
