@@ -3,7 +3,7 @@
 from tallyhouse.errors import OtherDigits
 from tallyhouse.rows import noughts, product_of, products_of, times_row, unit_row
 from tallyhouse.tables import blocks_of, row_pairs, rows_times, table_pairs, turned_table
-from tallyhouse.tallies import Tally, check_ticket
+from tallyhouse.tallies import Tally, check_ticket, column_behind
 
 
 def check_digits(one, other):
@@ -70,7 +70,8 @@ def ahead(tally, ticket):
 
 def behind(tally, ticket):
     """A tally of the worths with this ticket behind."""
-    return Tally(tally.digits, tally.start, tally.tables, products_of(tally.table(ticket), tally.ends))
+    check_ticket(tally.digits, ticket)
+    return Tally(tally.digits, tally.start, tally.tables, column_behind(tally, ticket))
 
 
 def nought(digits):

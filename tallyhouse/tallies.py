@@ -1,7 +1,7 @@
 """Tallies: what tickets are worth, told by rows that are led on digit by digit."""
 
 from tallyhouse.errors import BadTally, BadText, BadTicket
-from tallyhouse.rows import is_row, is_row_of, is_table, led_on, product_of
+from tallyhouse.rows import is_row, is_row_of, is_table, led_on, product_of, products_of
 from tallyhouse.tables import table_product, unit_table
 from tallyhouse.texts import (digits_at, end_at, lines_of, numbers_of, row_text, worded_row_at, worded_text,
                               words_at)
@@ -92,6 +92,14 @@ def led_through(digits, tables, row, ticket):
     for digit in ticket:
         row = led_on(row, tables[digits.index(digit)])
     return row
+
+
+def column_behind(tally, ticket):
+    """What a ticket makes of each state: the worth that a 1 in its place, led on by the ticket, comes to."""
+    column = tally.ends
+    for digit in ticket[::-1]:
+        column = products_of(tally.tables[tally.digits.index(digit)], column)
+    return column
 
 
 def tally_lines(digits, start, tables, ends):

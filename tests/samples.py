@@ -2,16 +2,21 @@
 
 import random
 
+from fractions import Fraction
+
+from tallyhouse.rewriters import Rewriter
 from tallyhouse.tallies import Tally
 
 ONES = Tally("01", (1, 0), (((1, 0), (0, 1)), ((1, 1), (0, 1))), (0, 1))
 VALUE = Tally("01", (1, 0), (((1, 0), (0, 2)), ((1, 1), (0, 2))), (0, 1))
 EMPTY = Tally("01", (), ((), ()), ())
+DIGITSUM = Tally("012", (1, 0), (((1, 0), (0, 1)), ((1, 1), (0, 1)), ((1, 2), (0, 1))), (0, 1))
+TWICE = Rewriter("0", "01", 1, ((0, "0", "0", 0), (0, "0", "1", 0)), (0,))
 
 # Things that are no digits, tickets, rows, texts or papers of anything.
 ODDITIES = (
     None, True, False, 0, 1, -1, 10 ** 39, "x", " ", "\n", "~", "a b", (), (1,), ("0",), ("",), (True,), (None,),
-    ((),), [], ["0"], [1, 2], {}, {"0": 1}, {1: [2]}, ONES, EMPTY, [ONES], (ONES, VALUE), ((0, 1), (1, 0)),
+    ((),), [], ["0"], [1, 2], {}, {"0": 1}, {1: [2]}, ONES, EMPTY, [ONES], (ONES, VALUE), TWICE, (TWICE,), ((0, 1), (1, 0)),
     [((0,),)], {"a": (1, [2, {"b": None}])}, ("same",), ("apart",), ("apart", None), ("same", None), ("same", [[1]]),
 )
 
@@ -50,6 +55,40 @@ def made_up_tally(seed, digits="01", size=3, low=-2, high=2, thin=0.5):
     tables = tuple(tuple(row() for _ in range(size)) for _ in digits)
     return Tally(digits, tuple(chance.randint(low, high) for _ in range(size)), tables,
                  tuple(chance.randint(low, high) for _ in range(size)))
+
+
+def made_up_rewriter(seed, digits="01", written="01", size=2, many=6):
+    """A rewriter with at most so many moves."""
+    chance = random.Random(seed)
+    moves = {(chance.randrange(size), chance.choice(digits), chance.choice(written), chance.randrange(size))
+             for _ in range(many)}
+    ends = [state for state in range(size) if chance.random() < 0.6]
+    return Rewriter(digits, written, size, tuple(sorted(moves)), tuple(ends))
+
+
+def brute_rank(rows):
+    """The rank of rows, by fractions."""
+    rows = [[Fraction(number) for number in row] for row in rows]
+    found = 0
+    for place in range(len(rows[0]) if rows else 0):
+        firsts = [k for k in range(found, len(rows)) if rows[k][place] != 0]
+        if firsts:
+            rows[found], rows[firsts[0]] = rows[firsts[0]], rows[found]
+            for k in range(found + 1, len(rows)):
+                factor = rows[k][place] / rows[found][place]
+                rows[k] = [a - factor * b for a, b in zip(rows[k], rows[found])]
+            found += 1
+    return found
+
+
+def brute_spanned(rows, row):
+    """Whether a row is spanned by rows, by fractions."""
+    return brute_rank(list(rows) + [row]) == brute_rank(rows) if row else True
+
+
+def led(row, table):
+    """What a row is led on to by a table."""
+    return tuple(sum(row[k] * table[k][j] for k in range(len(row))) for j in range(len(row)))
 
 
 def spoiled(thing, chance):

@@ -13,6 +13,20 @@ FUNCTIONS = {
     "making": {"added": "one other", "lessened": "one other", "multiplied": "one other", "met": "one other",
                "times": "number tally", "turned": "tally", "ahead": "tally ticket", "behind": "tally ticket",
                "nought": "digits", "lone": "digits ticket"},
+    "lattices": {"hermite": "rows width", "lattice_rank": "rows width", "is_in_lattice": "rows row",
+                 "is_in_span": "rows row", "numbers_for": "rows row", "fractions_for": "rows row",
+                 "bar_for": "rows row"},
+    "sames": {"are_same": "one other", "first_apart": "one other", "judge_same": "one other",
+              "same_holds": "one other thing"},
+    "leasts": {"rank": "tally", "tellers": "tally", "marks": "tally ticket", "least": "tally", "is_least": "tally",
+               "witnesses": "tally", "witnesses_hold": "tally number thing"},
+    "rewriters": {"kept": "digits", "up_to": "digits", "one_ahead": "digits", "exchanged": "rewriter",
+                  "joined": "one other", "through": "tally rewriter"},
+    "singles": {"is_single": "rewriter", "first_doubled": "rewriter", "judge_single": "rewriter",
+                "single_holds": "rewriter thing"},
+    "ranges": {"sums": "tally", "steps": "tally", "range_sum": "tally low high",
+               "block_sum": "tally beginning length", "roll_sum": "tally length", "roll_sums": "tally many",
+               "beginnings": "digits low high", "ticket_ahead": "digits ticket", "ticket_behind": "digits ticket"},
 }
 CLASSES = {
     "tallies": {"Tally": {"__init__": "self digits start tables ends", "__len__": "self", "__eq__": "self other",
@@ -20,6 +34,9 @@ CLASSES = {
                           "table": "self ticket", "is_count": "self"}},
     "pieces": {"Piece": {"__init__": "self tally ticket", "joined": "self other", "__len__": "self",
                          "__eq__": "self other", "led": "self row", "worth_now": "self"}},
+    "rewriters": {"Rewriter": {"__init__": "self digits written size moves ends", "__eq__": "self other",
+                               "__str__": "self", "read": "cls text", "ways": "self ticket",
+                               "rewritings": "self ticket"}},
 }
 
 
@@ -52,7 +69,10 @@ class InterfaceTest(unittest.TestCase):
     def test_objects_are_not_iterated_over_and_have_properties(self):
         tally = importlib.import_module("tallyhouse.tallies").Tally
         piece = importlib.import_module("tallyhouse.pieces").Piece
-        self.assertFalse(hasattr(tally, "__iter__") or hasattr(piece, "__iter__"))
+        rewriter = importlib.import_module("tallyhouse.rewriters").Rewriter
+        for made in (tally, piece, rewriter):
+            self.assertFalse(hasattr(made, "__iter__") or hasattr(made, "__getitem__"))
+        self.assertIsInstance(inspect.getattr_static(rewriter, "read"), classmethod)
         self.assertIsInstance(inspect.getattr_static(tally, "is_count"), property)
         self.assertIsInstance(inspect.getattr_static(piece, "worth_now"), property)
         self.assertIsInstance(inspect.getattr_static(tally, "read"), classmethod)

@@ -1,0 +1,34 @@
+"""Fractions as pairs of integers, the second one from 1 on, without a common divisor."""
+
+from math import gcd
+
+
+def quotient(top, bottom):
+    """The fraction of two integers, the second one not 0."""
+    common = gcd(top, bottom)
+    if bottom < 0:
+        common = -common
+    return (top // common, bottom // common)
+
+
+def plus(one, other):
+    """The sum of two fractions."""
+    return quotient(one[0] * other[1] + other[0] * one[1], one[1] * other[1])
+
+
+def less(one, other):
+    """The first fraction less the second one."""
+    return quotient(one[0] * other[1] - other[0] * one[1], one[1] * other[1])
+
+
+def over(one, number):
+    """A fraction by an integer that is not 0."""
+    return quotient(one[0], one[1] * number)
+
+
+def weighed(row, fractions):
+    """The sum of the integers of a row, each times its fraction."""
+    total = (0, 1)
+    for number, (top, bottom) in zip(row, fractions):
+        total = plus(total, (number * top, bottom))
+    return total

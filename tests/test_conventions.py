@@ -1,0 +1,102 @@
+"""What holds of all functions: kinds of results, the same again, nothing handed in changes, plain things hold."""
+
+import copy
+import unittest
+
+from tallyhouse import lattices, leasts, making, pieces, ranges, rewriters, sames, singles, tickets
+from tallyhouse.errors import TallyError
+from tallyhouse.pieces import Piece
+from tallyhouse.rewriters import Rewriter
+from tallyhouse.tallies import Tally
+from tests.samples import DIGITSUM, EMPTY, ODDITIES, ONES, TWICE, VALUE
+
+ROWS = ((2, 4, 0), (0, 3, 1), (2, 1, -1))
+CALLS = [
+    (tickets.are_digits, ("01",)), (tickets.is_ticket, ("01", "0")), (tickets.roll, ("01", 3)),
+    (tickets.is_ahead, ("1", "00")), (Tally, ("0", (1,), (((1,),),), (2,))), (Tally, ("0", [1], (), ())),
+    (Tally.read, (str(ONES),)), (Tally.read, ("tally 01",)), (Tally.row, (ONES, "01")), (Tally.worth, (ONES, "01")),
+    (Tally.table, (ONES, "01")), (Tally.worth, (ONES, ["0"])), (making.added, (ONES, VALUE)),
+    (making.lessened, (ONES, VALUE)), (making.multiplied, (ONES, VALUE)), (making.met, (ONES, VALUE)),
+    (making.met, (ONES, DIGITSUM)), (making.times, (3, ONES)), (making.turned, (VALUE,)), (making.ahead, (VALUE, "1")),
+    (making.behind, (VALUE, "1")), (making.nought, ("01",)), (making.lone, ("01", "10")), (pieces.Piece, (ONES, "1")),
+    (Piece.joined, (Piece(ONES, "1"), Piece(ONES, "0"))), (Piece.led, (Piece(ONES, "1"), (1, 2))),
+    (Piece.joined, (Piece(ONES, "1"), Piece(VALUE, "0"))), (lattices.hermite, (ROWS, 3)),
+    (lattices.lattice_rank, (ROWS, 3)), (lattices.is_in_lattice, (ROWS, (2, 7, 1))), (lattices.is_in_span, (ROWS, (1, 0, 0))),
+    (lattices.numbers_for, (ROWS, (2, 7, 1))), (lattices.fractions_for, (ROWS, (1, 2, 0))),
+    (lattices.bar_for, (ROWS, (1, 2, 0))), (sames.are_same, (ONES, VALUE)), (sames.first_apart, (ONES, VALUE)),
+    (sames.judge_same, (ONES, making.times(1, ONES))), (sames.same_holds, (ONES, VALUE, ("apart", "10"))),
+    (sames.judge_same, (ONES, DIGITSUM)), (leasts.rank, (ONES,)), (leasts.tellers, (ONES,)), (leasts.marks, (ONES, "1")),
+    (leasts.marks, (ONES, "2")), (leasts.least, (VALUE,)), (leasts.is_least, (VALUE,)), (leasts.witnesses, (VALUE,)),
+    (leasts.witnesses_hold, (VALUE, 1, (("1",), ("",)))),
+    (Rewriter, ("0", "01", 1, ((0, "0", "1", 0),), (0,))), (Rewriter, ("0", "01", 0, (), ())),
+    (Rewriter.read, (str(TWICE),)), (Rewriter.read, ("rewriter 1",)), (Rewriter.ways, (TWICE, "00")),
+    (Rewriter.rewritings, (TWICE, "00")), (rewriters.kept, ("01",)), (rewriters.up_to, ("012",)),
+    (rewriters.one_ahead, ("012",)), (rewriters.exchanged, (TWICE,)), (rewriters.joined, (TWICE, rewriters.up_to("01"))),
+    (rewriters.through, (VALUE, TWICE)), (singles.is_single, (TWICE,)), (singles.first_doubled, (TWICE,)),
+    (singles.judge_single, (rewriters.kept("01"),)), (singles.single_holds, (TWICE, ("two", "0"))),
+    (ranges.sums, (ONES,)), (ranges.steps, (ONES,)), (ranges.range_sum, (ONES, "01", "10")),
+    (ranges.block_sum, (ONES, "1", 3)), (ranges.roll_sum, (ONES, 3)), (ranges.roll_sums, (ONES, 3)),
+    (ranges.beginnings, ("01", "001", "110")), (ranges.ticket_ahead, ("01", "10")), (ranges.ticket_behind, ("01", "01")),
+]
+
+
+def outcome(told, arguments):
+    """What a call returns or raises, as something that can be compared."""
+    try:
+        return told(*arguments)
+    except TallyError as error:
+        return error.__class__.__name__, vars(error)
+
+
+def state(thing):
+    """All that is in a value, objects too."""
+    if isinstance(thing, (Tally, Rewriter, Piece)):
+        return thing.__class__.__name__, {name: state(part) for name, part in vars(thing).items()}
+    if isinstance(thing, (tuple, list)):
+        return thing.__class__.__name__, [state(part) for part in thing]
+    return repr(thing)
+
+
+def plain(thing):
+    """Whether a result is built of the kinds that the document tells."""
+    if type(thing) is tuple:
+        return all(plain(part) for part in thing)
+    return thing is None or type(thing) in (int, str, bool, Tally, Rewriter, Piece)
+
+
+class ConventionsTest(unittest.TestCase):
+    def test_the_same_again_and_nothing_changes(self):
+        for told, arguments in CALLS:
+            before = state(arguments)
+            first = outcome(told, arguments)
+            kept = state(first)
+            self.assertEqual(state(outcome(told, arguments)), kept, told.__qualname__)
+            self.assertEqual(state(arguments), before, told.__qualname__)
+            self.assertEqual(state(outcome(told, copy.deepcopy(arguments))), kept, told.__qualname__)
+
+    def test_kinds_of_results(self):
+        for told, arguments in CALLS:
+            found = outcome(told, arguments)
+            if not (isinstance(found, tuple) and len(found) == 2 and isinstance(found[1], dict)):
+                self.assertTrue(plain(found), told.__qualname__)
+            name = told.__name__
+            if name.startswith(("is_", "are_")) or name.endswith(("_hold", "_holds")):
+                self.assertIs(type(found), bool, name)
+
+    def test_objects_are_equal_to_no_other_value(self):
+        for thing in (ONES, EMPTY, TWICE, Piece(ONES, ""), Piece(EMPTY, "")):
+            for other in ODDITIES:
+                if thing is not other and state(thing) != state(other):
+                    self.assertIs(thing == other, False)
+                    self.assertIs(other == thing, False)
+
+    def test_checkers_take_any_value(self):
+        deep = ("same", ())
+        for _ in range(18):
+            deep = (deep, [deep, {"x": deep}]) if _ < 4 else (deep,)
+        great = tuple([("0",) * 10] * 270)
+        for thing in ODDITIES + (deep, great, "~" * 2000, (10 ** 39,) * 2999, ("same", great), ("apart", "~" * 2000),
+                                 ("single", great), ("two", "~" * 2000), (great, great)):
+            for found in (tickets.are_digits(thing), tickets.is_ticket("01", thing), sames.same_holds(ONES, ONES, thing),
+                          leasts.witnesses_hold(ONES, 2, thing), singles.single_holds(TWICE, thing)):
+                self.assertTrue(found is False or thing in ("0", "1", "", "01"), repr(thing)[:60])
