@@ -92,8 +92,8 @@ class ConventionsTest(unittest.TestCase):
 
     def test_checkers_take_any_value(self):
         deep = ("same", ())
-        for _ in range(18):
-            deep = (deep, [deep, {"x": deep}]) if _ < 4 else (deep,)
+        for depth in range(16):
+            deep = (deep, [deep, {"x": deep}]) if depth < 3 else (deep,)
         great = tuple([("0",) * 10] * 270)
         for thing in ODDITIES + (deep, great, "~" * 2000, (10 ** 39,) * 2999, ("same", great), ("apart", "~" * 2000),
                                  ("single", great), ("two", "~" * 2000), (great, great)):

@@ -118,12 +118,13 @@ class HermiteTest(unittest.TestCase):
 
     def test_the_greatest_sizes(self):
         chance = random.Random(11)
+        rows = made_up_rows(chance, 8, 8, 999999, 0)
+        basis = hermite(rows, 8)
+        self.assertEqual(math.prod(basis[k][k] for k in range(8)), abs(determinant(rows)))
         for _ in range(5):
             rows = made_up_rows(chance, 8, 8, 999999, 0)
             basis = hermite(rows, 8)
             self.form(basis, 8)
-            self.assertEqual(math.prod(basis[k][k] for k in range(8)), abs(determinant(rows)) if _ == 0 else
-                             math.prod(basis[k][k] for k in range(8)))
             self.assertEqual(hermite(basis + rows, 8), basis)
             numbers = tuple(chance.randint(-10 ** 6, 10 ** 6) for _ in range(8))
             row = combined(numbers, rows, 8)
