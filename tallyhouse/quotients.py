@@ -2,6 +2,8 @@
 
 from math import gcd
 
+from tallyhouse.rows import is_row_of
+
 
 def quotient(top, bottom):
     """The fraction of two integers, the second one not 0."""
@@ -9,6 +11,11 @@ def quotient(top, bottom):
     if bottom < 0:
         common = -common
     return (top // common, bottom // common)
+
+
+def is_fraction(thing):
+    """Whether any value is a fraction."""
+    return is_row_of(thing, 2) and thing[1] >= 1 and gcd(thing[0], thing[1]) == 1
 
 
 def plus(one, other):

@@ -23,6 +23,13 @@ def is_ticket(digits, thing):
     return isinstance(thing, str) and all([sign in digits for sign in thing])
 
 
+def are_in_order(digits, thing):
+    """Whether any value is a tuple of tickets over the digits, in order, each once."""
+    if not isinstance(thing, tuple) or not all([is_ticket(digits, part) for part in thing]):
+        return False
+    return all([is_ahead(one, other) for one, other in zip(thing, thing[1:])])
+
+
 def roll(digits, length):
     """The ascending tuple of all tickets of so many digits."""
     tickets = [""]

@@ -1,5 +1,6 @@
 """Tallies of the document, made-up ones, and values of all kinds for the tests."""
 
+import math
 import random
 
 from fractions import Fraction
@@ -11,6 +12,11 @@ ONES = Tally("01", (1, 0), (((1, 0), (0, 1)), ((1, 1), (0, 1))), (0, 1))
 VALUE = Tally("01", (1, 0), (((1, 0), (0, 2)), ((1, 1), (0, 2))), (0, 1))
 EMPTY = Tally("01", (), ((), ()), ())
 DIGITSUM = Tally("012", (1, 0), (((1, 0), (0, 1)), ((1, 1), (0, 1)), ((1, 2), (0, 1))), (0, 1))
+ZEROS = Tally("01", (1, 0), (((1, 1), (0, 1)), ((1, 0), (0, 1))), (0, 1))
+LENGTH = Tally("01", (1, 0), (((1, 1), (0, 1)), ((1, 1), (0, 1))), (0, 1))
+ONE = Tally("01", (1,), (((1,),), ((1,),)), (1,))
+TWOS = Tally("0", (1,), (((2,),),), (1,))
+EVEN = Tally("0", (1, 0), (((0, 1), (1, 0)),), (1, 0))
 TWICE = Rewriter("0", "01", 1, ((0, "0", "0", 0), (0, "0", "1", 0)), (0,))
 
 # Things that are no digits, tickets, rows, texts or papers of anything.
@@ -18,6 +24,12 @@ ODDITIES = (
     None, True, False, 0, 1, -1, 10 ** 39, "x", " ", "\n", "~", "a b", (), (1,), ("0",), ("",), (True,), (None,),
     ((),), [], ["0"], [1, 2], {}, {"0": 1}, {1: [2]}, ONES, EMPTY, [ONES], (ONES, VALUE), TWICE, (TWICE,), ((0, 1), (1, 0)),
     [((0,),)], {"a": (1, [2, {"b": None}])}, ("same",), ("apart",), ("apart", None), ("same", None), ("same", [[1]]),
+    ("made",), ("made", None), ("made", [0]), ("barred",), ("barred", ()), ("barred", None), ("barred", ((),)),
+    ("barred", (("", (1, 2)), None)), ("relations",), ("relations", (), None), ("relations", None, ()), ("at", "", None),
+    ("never",), ("never", None), ("never", False), ("never", "0"), ("doubles",), ("doubles", None, 0, None, None),
+    ("doubles", "", None, "0", ""), ("doubles", "", 0, "0"), ("power",), ("power", None, None, None), ("power", (), ()),
+    ("power", (), (), None), ("power", (), (None,), ""), ("power", ((0, 0), None), (), ""), (ONES,) * 3, (None,) * 4,
+    (0,) * 5, ("",) * 4, ({},) * 3, ([],) * 2,
 )
 
 
@@ -115,3 +127,15 @@ def spoiled(thing, chance):
     if isinstance(thing, str):
         return chance.choice((thing + "0", thing[1:], thing + "x", None, 0, (), thing[::-1], " "))
     return chance.choice((None, 0, "", ()))
+
+
+def made_up_count(seed, digits="01", size=3, high=2, thin=0.5):
+    """A tally without numbers below 0."""
+    return made_up_tally(seed, digits, size, 0, high, thin)
+
+
+def lowest_terms(thing):
+    """Whether any value is a fraction, by the words of the document."""
+    if type(thing) is not tuple or len(thing) != 2 or [type(part) for part in thing] != [int, int]:
+        return False
+    return thing[1] >= 1 and math.gcd(*thing) == 1

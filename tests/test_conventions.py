@@ -3,13 +3,15 @@
 import copy
 import unittest
 
-from tallyhouse import lattices, leasts, making, pieces, ranges, rewriters, sames, singles, tickets
+from tallyhouse import (doubling, lattices, leasts, madeof, making, pieces, powers, ranges, relations, rewriters, sames,
+                        singles, takings, tickets, useful)
 from tallyhouse.errors import TallyError
 from tallyhouse.pieces import Piece
 from tallyhouse.rewriters import Rewriter
 from tallyhouse.tallies import Tally
-from tests.samples import DIGITSUM, EMPTY, ODDITIES, ONES, TWICE, VALUE
+from tests.samples import DIGITSUM, EMPTY, LENGTH, ODDITIES, ONES, TWICE, TWOS, VALUE, ZEROS
 
+GIVEN = (ONES, ZEROS, LENGTH)
 ROWS = ((2, 4, 0), (0, 3, 1), (2, 1, -1))
 CALLS = [
     (tickets.are_digits, ("01",)), (tickets.is_ticket, ("01", "0")), (tickets.roll, ("01", 3)),
@@ -37,6 +39,23 @@ CALLS = [
     (ranges.sums, (ONES,)), (ranges.steps, (ONES,)), (ranges.range_sum, (ONES, "01", "10")),
     (ranges.block_sum, (ONES, "1", 3)), (ranges.roll_sum, (ONES, 3)), (ranges.roll_sums, (ONES, 3)),
     (ranges.beginnings, ("01", "001", "110")), (ranges.ticket_ahead, ("01", "10")), (ranges.ticket_behind, ("01", "01")),
+    (takings.takings, (DIGITSUM, "01", 4)), (takings.takings, (ONES, "01", 9)), (takings.takings, (ONES, None, 9)),
+    (takings.takings_hold, (ONES, "01", 9, ("never", 4))), (takings.cuts, (DIGITSUM, 2, (1, 3, 99))),
+    (relations.worth_row, (GIVEN, "011")), (relations.worth_row, (GIVEN, 0)), (relations.worth_rows, (GIVEN,)),
+    (relations.rank_together, (GIVEN,)), (relations.telling_tickets, (GIVEN,)), (relations.relations, (GIVEN,)),
+    (relations.relations, ((ONES, DIGITSUM),)), (relations.is_relation, (GIVEN, (1, 1, -1))),
+    (relations.combined, (GIVEN, (1, 2, 3))), (relations.judge_relations, (GIVEN,)),
+    (relations.relations_hold, (GIVEN, ("relations", ((1, 1, -1),), ("0", "1")))),
+    (madeof.is_made_of, (LENGTH, GIVEN)), (madeof.judge_made_of, (LENGTH, GIVEN)), (madeof.judge_made_of, (VALUE, GIVEN)),
+    (madeof.made_of_holds, (LENGTH, GIVEN, ("made", (0, 0, 1)))), (madeof.least_multiple, (LENGTH, GIVEN)),
+    (madeof.least_multiple, (VALUE, GIVEN)), (madeof.step_of, (GIVEN,)), (madeof.is_made_by_fractions, (LENGTH, GIVEN)),
+    (madeof.judge_by_fractions, (LENGTH, GIVEN)), (madeof.judge_by_fractions, (VALUE, GIVEN)),
+    (madeof.by_fractions_hold, (VALUE, GIVEN, ("barred", (("10", (1, 1)), ("01", (-1, 1)))))),
+    (useful.useful_states, (ONES,)), (useful.ways, (ONES, "11", 0, 1)), (useful.ways, (ONES, ["1"], 0, 1)),
+    (useful.along, (ONES, "", "1", "")), (doubling.doubling_states, (VALUE,)), (doubling.does_double, (VALUE,)),
+    (doubling.doubled, (("doubles", "", 0, "0", ""), 3)), (powers.rises, (ONES,)), (powers.degree, (ONES,)),
+    (powers.degree, (VALUE,)), (powers.levels_of, (ONES,)), (powers.levels_of, (TWOS,)),
+    (powers.raised, (("power", ((0, 0), (1, 1)), (("", 0, "1", 1),), ""), 3)),
 ]
 
 
@@ -98,5 +117,8 @@ class ConventionsTest(unittest.TestCase):
         for thing in ODDITIES + (deep, great, "~" * 2000, (10 ** 39,) * 2999, ("same", great), ("apart", "~" * 2000),
                                  ("single", great), ("two", "~" * 2000), (great, great)):
             for found in (tickets.are_digits(thing), tickets.is_ticket("01", thing), sames.same_holds(ONES, ONES, thing),
-                          leasts.witnesses_hold(ONES, 2, thing), singles.single_holds(TWICE, thing)):
+                          leasts.witnesses_hold(ONES, 2, thing), singles.single_holds(TWICE, thing),
+                          takings.takings_hold(ONES, "01", 3, thing), relations.relations_hold(GIVEN, thing),
+                          relations.is_relation(GIVEN, thing), madeof.made_of_holds(ONES, GIVEN, thing),
+                          madeof.by_fractions_hold(ONES, GIVEN, thing)):
                 self.assertTrue(found is False or thing in ("0", "1", "", "01"), repr(thing)[:60])

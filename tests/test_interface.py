@@ -27,6 +27,17 @@ FUNCTIONS = {
     "ranges": {"sums": "tally", "steps": "tally", "range_sum": "tally low high",
                "block_sum": "tally beginning length", "roll_sum": "tally length", "roll_sums": "tally many",
                "beginnings": "digits low high", "ticket_ahead": "digits ticket", "ticket_behind": "digits ticket"},
+    "takings": {"takings": "tally ticket amount", "takings_hold": "tally ticket amount thing",
+                "cuts": "tally length amounts"},
+    "relations": {"worth_row": "given ticket", "worth_rows": "given", "rank_together": "given",
+                  "telling_tickets": "given", "relations": "given", "is_relation": "given thing",
+                  "combined": "given numbers", "judge_relations": "given", "relations_hold": "given thing"},
+    "madeof": {"is_made_of": "goal given", "judge_made_of": "goal given", "made_of_holds": "goal given thing",
+               "least_multiple": "goal given", "step_of": "given", "is_made_by_fractions": "goal given",
+               "judge_by_fractions": "goal given", "by_fractions_hold": "goal given thing"},
+    "useful": {"useful_states": "tally", "ways": "tally ticket state goal", "along": "tally ahead loop behind"},
+    "doubling": {"doubling_states": "tally", "does_double": "tally", "doubled": "paper times"},
+    "powers": {"rises": "tally", "degree": "tally", "levels_of": "tally", "raised": "paper times"},
 }
 CLASSES = {
     "tallies": {"Tally": {"__init__": "self digits start tables ends", "__len__": "self", "__eq__": "self other",

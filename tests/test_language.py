@@ -215,7 +215,7 @@ class LanguageTest(unittest.TestCase):
                         continue
                     at_once = isinstance(node, (ast.For, ast.comprehension)) or (
                         isinstance(node, ast.Call) and isinstance(node.func, ast.Name)
-                        and node.func.id in ("list", "tuple", "sorted", "sum", "enumerate", "zip", "reversed"))
+                        and node.func.id in ("list", "tuple", "sorted", "sum", "enumerate", "zip", "reversed", "max", "min"))
                     self.assertTrue(at_once, self.told(name, node))
 
     def test_attributes_and_methods_have_unlike_names(self):
