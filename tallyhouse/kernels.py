@@ -10,7 +10,7 @@ from tallyhouse.spans import span_of
 def kernel_of(rows, width):
     """The Hermite basis of the lattice of all rows of a width whose product with each of some rows is 0."""
     lines = [line for lead, line in span_of(rows)]
-    # A row made of the units has the products with all lines ahead of itself: where these are noughts, it is asked for.
+    # What is made of the units has its products with the lines ahead of it: it is asked for where these are noughts.
     told = [tuple([line[place] for line in lines]) + unit_row(width, place) for place in range(width)]
     return tuple([row[len(lines):] for row in basis_of(told) if lead_of(row) >= len(lines)])
 

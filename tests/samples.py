@@ -17,6 +17,9 @@ LENGTH = Tally("01", (1, 0), (((1, 1), (0, 1)), ((1, 1), (0, 1))), (0, 1))
 ONE = Tally("01", (1,), (((1,),), ((1,),)), (1,))
 TWOS = Tally("0", (1,), (((2,),),), (1,))
 EVEN = Tally("0", (1, 0), (((0, 1), (1, 0)),), (1, 0))
+ODD = Tally("01", (1, 0), (((1, 0), (0, 1)), ((0, 1), (1, 0))), (0, 1))
+PAIRS = Tally("01", (1, 0, 0), (((1, 0, 0), (1, 0, 0), (0, 0, 1)), ((0, 1, 0), (0, 1, 1), (0, 0, 1))), (0, 0, 1))
+BOTH = Tally("01", (1, 1), (((2, 0), (0, 1)), ((1, 0), (0, 2))), (1, 1))
 TWICE = Rewriter("0", "01", 1, ((0, "0", "0", 0), (0, "0", "1", 0)), (0,))
 
 # Things that are no digits, tickets, rows, texts or papers of anything.
@@ -29,7 +32,11 @@ ODDITIES = (
     ("never",), ("never", None), ("never", False), ("never", "0"), ("doubles",), ("doubles", None, 0, None, None),
     ("doubles", "", None, "0", ""), ("doubles", "", 0, "0"), ("power",), ("power", None, None, None), ("power", (), ()),
     ("power", (), (), None), ("power", (), (None,), ""), ("power", ((0, 0), None), (), ""), (ONES,) * 3, (None,) * 4,
-    (0,) * 5, ("",) * 4, ({},) * 3, ([],) * 2,
+    (0,) * 5, ("",) * 4, ({},) * 3, ([],) * 2, ("bounded",), ("bounded", None), ("bounded", ()), ("bounded", [(0,)]),
+    ("bounded", (None,)), ("ever",), ("ever", "", "", ""), ("ever", "", None, ""), ("ever", None, "0", ""), ("ever", "", "0"),
+    ("within",), ("within", None), ("within", ()), ("within", (0,)), ("above",), ("above", None), ("above", "", ()),
+    ("greatest",), ("greatest", "", None), ("greatest", None, ()), ("greatest", "", ()), ("greatest", "", ((),)),
+    ("greatest", "", (None,)), ("lowest", "", None), ("lowest", "", ((None,),)), ("lowest", "", (((),), ())),
 )
 
 

@@ -3,13 +3,13 @@
 import copy
 import unittest
 
-from tallyhouse import (doubling, lattices, leasts, madeof, making, pieces, powers, ranges, relations, rewriters, sames,
-                        singles, takings, tickets, useful)
+from tallyhouse import (answers, bounds, caps, doubling, growthpapers, lattices, leasts, madeof, making, pieces, powers,
+                        prizes, ranges, relations, rewriters, sames, singles, takings, tickets, useful)
 from tallyhouse.errors import TallyError
 from tallyhouse.pieces import Piece
 from tallyhouse.rewriters import Rewriter
 from tallyhouse.tallies import Tally
-from tests.samples import DIGITSUM, EMPTY, LENGTH, ODDITIES, ONES, TWICE, TWOS, VALUE, ZEROS
+from tests.samples import BOTH, DIGITSUM, EMPTY, LENGTH, ODD, ODDITIES, ONES, TWICE, TWOS, VALUE, ZEROS
 
 GIVEN = (ONES, ZEROS, LENGTH)
 ROWS = ((2, 4, 0), (0, 3, 1), (2, 1, -1))
@@ -56,6 +56,23 @@ CALLS = [
     (doubling.doubled, (("doubles", "", 0, "0", ""), 3)), (powers.rises, (ONES,)), (powers.degree, (ONES,)),
     (powers.degree, (VALUE,)), (powers.levels_of, (ONES,)), (powers.levels_of, (TWOS,)),
     (powers.raised, (("power", ((0, 0), (1, 1)), (("", 0, "1", 1),), ""), 3)),
+    (growthpapers.judge_growth, (ONES,)), (growthpapers.judge_growth, (TWOS,)), (growthpapers.grows_more, (TWOS, ONES)),
+    (growthpapers.growth_holds, (TWOS, ("doubles", "", 0, "0", ""))), (bounds.worths_round, (ONES, "", "1", "", 4)),
+    (bounds.worths_round, (ONES, "", "", "", 4)), (bounds.do_come_round, (ODD, "", "1", "")), (bounds.judge_bounds, (ODD,)),
+    (bounds.judge_bounds, (ONES,)), (bounds.is_bounded, (ODD,)), (bounds.bounds_hold, (ODD, ("bounded", ((0, 1), (1, 0))))),
+    (bounds.worths_of, (ODD,)), (bounds.worths_of, (VALUE,)), (caps.capped, (ONES, (1, 9), 3)),
+    (caps.capped_on, (ONES, (1, 4), "1", 3)), (caps.capped_rows, (ONES, 3)), (caps.judge_cap, (ONES, 3)),
+    (caps.judge_cap, (ODD, 3)), (caps.is_within, (ODD, 1)), (caps.cap_holds, (ONES, 1, ("above", "11"))),
+    (caps.first_above, (ONES, 2)), (caps.least_cap, (ODD,)), (caps.least_cap, (ONES,)), (answers.machine, (ODD,)),
+    (answers.machine, (ONES,)), (answers.how_many, (ODD, 1, 3)), (answers.worths_in, (ODD, 3)),
+    (answers.first_of, (ODD, 1, 3)), (answers.nth_of, (ODD, 1, 3, 3)), (answers.place_of, (ODD, "100")),
+    (answers.place_of, (ODD, 1)), (answers.next_of, (ODD, 1, "001")), (answers.ticket_of, (ODD, 1, 2)),
+    (prizes.greatest, (BOTH, 4)), (prizes.lowest, (BOTH, 4)), (prizes.greatest_ticket, (BOTH, 4)),
+    (prizes.lowest_ticket, (BOTH, 4)), (prizes.greatests, (BOTH, 4)), (prizes.lowests, (BOTH, 4)),
+    (prizes.greatest_behind, (BOTH, "1", 3)), (prizes.lowest_behind, (BOTH, None, 3)), (prizes.highest_rows, (BOTH, 4)),
+    (prizes.lowest_rows, (BOTH, 4)), (prizes.is_below, (BOTH, (1, 1), (1, 2))), (prizes.judge_greatest, (BOTH, 2)),
+    (prizes.judge_lowest, (BOTH, 2)), (prizes.greatest_holds, (ONES, 0, ("greatest", "", (((1, 0),),)))),
+    (prizes.lowest_holds, (ONES, 0, ("lowest", "", (((1, 0),),)))),
 ]
 
 
@@ -120,5 +137,7 @@ class ConventionsTest(unittest.TestCase):
                           leasts.witnesses_hold(ONES, 2, thing), singles.single_holds(TWICE, thing),
                           takings.takings_hold(ONES, "01", 3, thing), relations.relations_hold(GIVEN, thing),
                           relations.is_relation(GIVEN, thing), madeof.made_of_holds(ONES, GIVEN, thing),
-                          madeof.by_fractions_hold(ONES, GIVEN, thing)):
+                          madeof.by_fractions_hold(ONES, GIVEN, thing), growthpapers.growth_holds(ONES, thing),
+                          bounds.bounds_hold(ODD, thing), caps.cap_holds(ODD, 1, thing),
+                          prizes.greatest_holds(ONES, 1, thing), prizes.lowest_holds(ONES, 1, thing)):
                 self.assertTrue(found is False or thing in ("0", "1", "", "01"), repr(thing)[:60])
