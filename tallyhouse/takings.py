@@ -3,16 +3,18 @@
 from tallyhouse.ranges import beginnings
 from tallyhouse.rows import is_whole, led_on, product_of, products_of
 from tallyhouse.tables import table_sum
-from tallyhouse.tallies import check_ticket
+from tallyhouse.tallies import check_ticket, led_through
 
 
 def takings(tally, ticket, amount):
     """("at", the ticket that reaches the amount, what is taken ahead of it), or ("never", all that is taken)."""
     check_ticket(tally.digits, ticket)
     columns = block_columns(tally, len(ticket))
+    heads = head_rows(tally, ticket)
     taken = 0
     for beginning in beginnings(tally.digits, ticket, tally.digits[-1] * len(ticket)):
-        row = tally.row(beginning)
+        # It has the digits of the ticket but for the last one.
+        row = led_through(tally.digits, tally.tables, heads[len(beginning[:-1])], beginning[-1:])
         more = len(ticket) - len(beginning)
         block = product_of(row, columns[more])
         if taken + block >= amount:
@@ -20,6 +22,14 @@ def takings(tally, ticket, amount):
             return ("at", beginning + digits, taken + ahead)
         taken += block
     return ("never", taken)
+
+
+def head_rows(tally, ticket):
+    """For 0, 1, .. digits the row of so many first digits of a ticket."""
+    rows = [tally.start]
+    for digit in ticket:
+        rows.append(led_on(rows[-1], tally.tables[tally.digits.index(digit)]))
+    return rows
 
 
 def block_columns(tally, length):
