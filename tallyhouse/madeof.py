@@ -1,10 +1,8 @@
 """Whether a goal is made of given tallies, by integers or by fractions, and the papers that show it."""
 
-from math import lcm
-
 from tallyhouse.kernels import kernel_of, multiple_by, step_by
 from tallyhouse.lattices import bar_for, basis_of, fractions_for, numbers_for
-from tallyhouse.quotients import is_fraction
+from tallyhouse.quotients import are_fractions, bottom_of, is_fraction, multiples_of
 from tallyhouse.relations import check_given, is_relation, making_worths, rank_together, telling_worths, worth_rows
 from tallyhouse.rows import is_row_of, product_of
 from tallyhouse.tickets import are_in_order
@@ -99,25 +97,6 @@ def are_pairs(digits, thing):
     if not all([is_fraction(part[1]) and part[1][0] != 0 for part in thing]):
         return False
     return are_in_order(digits, tuple([part[0] for part in thing]))
-
-
-def are_fractions(thing, many):
-    """Whether any value is a tuple of so many fractions."""
-    return isinstance(thing, tuple) and len(thing) == many and all([is_fraction(part) for part in thing])
-
-
-def bottom_of(fractions):
-    """The least number by which all of some fractions are integers."""
-    found = 1
-    for top, bottom in fractions:
-        found = lcm(found, bottom)
-    return found
-
-
-def multiples_of(fractions):
-    """Some fractions, multiplied by the least number by which all are integers."""
-    bottom = bottom_of(fractions)
-    return tuple([top * (bottom // further) for top, further in fractions])
 
 
 def sums_of(tallies, pairs):

@@ -1,6 +1,6 @@
 """Fractions as pairs of integers, the second one from 1 on, without a common divisor."""
 
-from math import gcd
+from math import gcd, lcm
 
 from tallyhouse.rows import is_row_of
 
@@ -16,6 +16,11 @@ def quotient(top, bottom):
 def is_fraction(thing):
     """Whether any value is a fraction."""
     return is_row_of(thing, 2) and thing[1] >= 1 and gcd(thing[0], thing[1]) == 1
+
+
+def are_fractions(thing, many):
+    """Whether any value is a tuple of so many fractions."""
+    return isinstance(thing, tuple) and len(thing) == many and all([is_fraction(part) for part in thing])
 
 
 def plus(one, other):
@@ -39,3 +44,17 @@ def weighed(row, fractions):
     for number, (top, bottom) in zip(row, fractions):
         total = plus(total, (number * top, bottom))
     return total
+
+
+def bottom_of(fractions):
+    """The least number by which all of some fractions are integers."""
+    found = 1
+    for top, bottom in fractions:
+        found = lcm(found, bottom)
+    return found
+
+
+def multiples_of(fractions):
+    """Some fractions, multiplied by the least number by which all are integers."""
+    bottom = bottom_of(fractions)
+    return tuple([top * (bottom // further) for top, further in fractions])

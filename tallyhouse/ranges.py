@@ -3,7 +3,7 @@
 from tallyhouse.errors import BadTicket, OtherRoll
 from tallyhouse.making import lessened
 from tallyhouse.rewriters import one_ahead, through, up_to
-from tallyhouse.rows import led_on, product_of
+from tallyhouse.rows import led_on, less_row, noughts, plus_row, product_of
 from tallyhouse.tables import table_sum
 from tallyhouse.tickets import is_ahead, is_ticket
 
@@ -32,8 +32,26 @@ def range_sum(tally, low, high):
     check_range(tally.digits, low, high)
     if is_ahead(high, low):
         return 0
-    summed = sums(tally)
-    return summed.worth(high) - summed.worth(low) + tally.worth(low)
+    return product_of(range_row(tally, low, high), tally.ends)
+
+
+def range_row(tally, low, high):
+    """The sum of the rows of the tickets of a range that is not empty."""
+    row, below = row_and_below(tally, high)
+    return less_row(plus_row(row, below), 1, row_and_below(tally, low)[1])
+
+
+def row_and_below(tally, ticket):
+    """The row of a ticket, and the sum of the rows of all tickets ahead of it in its roll."""
+    table = table_sum(tally.tables, len(tally))
+    row, below = tally.start, noughts(len(tally))
+    for digit in ticket:
+        place = tally.digits.index(digit)
+        below = led_on(below, table)
+        for lesser in tally.tables[:place]:
+            below = plus_row(below, led_on(row, lesser))
+        row = led_on(row, tally.tables[place])
+    return row, below
 
 
 def roll_rows(tally, row, many):

@@ -69,6 +69,14 @@ def less_row(row, number, other):
     return tuple([part - number * further for part, further in zip(row, other)])
 
 
+def sum_of_rows(numbers, rows, width):
+    """The sum of some rows of a width, each times its number."""
+    total = noughts(width)
+    for number, row in zip(numbers, rows):
+        total = plus_row(total, times_row(number, row))
+    return total
+
+
 def led_on(row, table):
     """The sum of the row's integers times the table's rows."""
     parts = [(number, line) for number, line in zip(row, table) if number != 0]

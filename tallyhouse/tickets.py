@@ -30,6 +30,13 @@ def are_in_order(digits, thing):
     return all([is_ahead(one, other) for one, other in zip(thing, thing[1:])])
 
 
+def is_stretch(digits, low, high):
+    """Whether any two values are tickets over the digits, of one length, the first one not behind the second one."""
+    if not is_ticket(digits, low) or not is_ticket(digits, high):
+        return False
+    return len(low) == len(high) and low <= high
+
+
 def roll(digits, length):
     """The ascending tuple of all tickets of so many digits."""
     tickets = [""]

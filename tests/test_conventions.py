@@ -3,16 +3,23 @@
 import copy
 import unittest
 
-from tallyhouse import (answers, bounds, caps, doubling, growthpapers, lattices, leasts, madeof, making, pieces, powers,
-                        prizes, ranges, relations, rewriters, sames, singles, takings, tickets, useful)
+from tallyhouse import (answers, asked, bounds, caps, doubling, growthpapers, lattices, leasts, madeof, making, pieces,
+                        powers, prices, prizes, promises, ranges, relations, rewriters, sames, singles, takings, tickets,
+                        told, useful, wider)
 from tallyhouse.errors import TallyError
+from tallyhouse.house import House
 from tallyhouse.pieces import Piece
+from tallyhouse.prices import Book
 from tallyhouse.rewriters import Rewriter
 from tallyhouse.tallies import Tally
+from tests.book_samples import BOOK, EIGHT, THREE
 from tests.samples import BOTH, DIGITSUM, EMPTY, LENGTH, ODD, ODDITIES, ONES, TWICE, TWOS, VALUE, ZEROS
 
 GIVEN = (ONES, ZEROS, LENGTH)
 ROWS = ((2, 4, 0), (0, 3, 1), (2, 1, -1))
+HOUSE = House()
+HOUSE.keep("ones", ONES)
+HOUSE.make_promise("ones", ("degree", 1))
 CALLS = [
     (tickets.are_digits, ("01",)), (tickets.is_ticket, ("01", "0")), (tickets.roll, ("01", 3)),
     (tickets.is_ahead, ("1", "00")), (Tally, ("0", (1,), (((1,),),), (2,))), (Tally, ("0", [1], (), ())),
@@ -73,23 +80,51 @@ CALLS = [
     (prizes.lowest_rows, (BOTH, 4)), (prizes.is_below, (BOTH, (1, 1), (1, 2))), (prizes.judge_greatest, (BOTH, 2)),
     (prizes.judge_lowest, (BOTH, 2)), (prizes.greatest_holds, (ONES, 0, ("greatest", "", (((1, 0),),)))),
     (prizes.lowest_holds, (ONES, 0, ("lowest", "", (((1, 0),),)))),
+    (Book, (ONES, (("0", "1", 2),))), (Book, (ONES, (("0", "1", 2), None))), (Book, (ONES, [])),
+    (Book.with_told, (BOOK, "", "", 1)), (Book.with_told, (BOOK, "1", "0", 1)), (Book.without, (THREE, 1)),
+    (prices.told_row, (THREE, 1)), (prices.are_prices, (BOOK, (2, 1))), (prices.can_be, (BOOK,)),
+    (prices.judge_book, (BOOK,)), (prices.judge_book, (THREE,)), (prices.book_holds, (BOOK, ("can", (2, 1)))),
+    (prices.suspects, (THREE,)), (told.rest_and_step, (BOOK, "11")), (told.rest_and_step, (THREE, "11")),
+    (told.judge_worths, (BOOK, "11")), (told.judge_worths, (THREE, "")), (told.worths_hold, (BOOK, "11", None)),
+    (told.is_told, (EIGHT, "1")), (told.first_open, (EIGHT,)), (told.judge_all, (EIGHT,)), (told.judge_all, (THREE,)),
+    (told.all_holds, (EIGHT, ("open", "", (0, 0), (1, -1)))), (asked.to_ask, (BOOK,)), (asked.is_lot, (BOOK, ("", "1"))),
+    (asked.is_enough, (BOOK, ("1",))), (asked.is_cheapest, (BOOK, ("1",))), (asked.cost_of, (("1", "01"),)),
+    (asked.asked, (BOOK, ("1",), (2, 1))), (wider.is_reading, (ONES, ("0", ("11",)))),
+    (wider.read_through, (ONES, ("0", ("11",)))), (wider.merged, (DIGITSUM, "0", "2")), (wider.merged, (DIGITSUM, "0", ["2"])),
+    (wider.symmetries, (BOTH,)), (wider.is_free_of_order, (VALUE,)), (wider.is_by_length, (VALUE,)),
+    (wider.order_apart, (VALUE,)), (wider.order_apart, (ONES,)), (wider.length_apart, (VALUE,)),
+    (wider.order_apart_holds, (VALUE, ("apart", "", "0", "1", ""))),
+    (wider.length_apart_holds, (VALUE, ("apart", "", "0", "1", ""))), (promises.is_promise, (("made of", ("a",)),)),
+    (promises.fault_of, (ONES, ("cap", 3), None, ())), (promises.fault_of, (ONES, ("made of", ("a",)), None, (LENGTH,))),
+    (promises.fault_of, (ONES, ("sums", 1), LENGTH, ())), (House.of, ((("keep", "a", str(ONES)),),)),
+    (House.of, ((("keep", "a", str(ONES)), None),)), (House.gate, (HOUSE, "ones", VALUE)), (House.gate, (HOUSE, "no", VALUE)),
+    (House.names, (HOUSE,)), (House.log, (HOUSE,)), (House.tariff_now, (HOUSE, "ones")), (House.editions, (HOUSE, "ones")),
+    (House.promises, (HOUSE, "ones")), (House.trial, (HOUSE,)), (House.make_promise, (HOUSE, "ones", ("rank", 1))),
+    (House.make_promise, (HOUSE, "ones", [])), (House.keep, (HOUSE, "ones", ONES)), (House.drop, (HOUSE, ("ones",))),
+    (House.release, (HOUSE, "ones", ("rank", 2))), (House.add_edition, (HOUSE, "ones", VALUE)),
+    (House.add_edition, (HOUSE, "ones", DIGITSUM)),
 ]
 
 
-def outcome(told, arguments):
+CLASSES = (Tally, Rewriter, Piece, Book, House)
+
+
+def outcome(call, arguments):
     """What a call returns or raises, as something that can be compared."""
     try:
-        return told(*arguments)
+        return call(*arguments)
     except TallyError as error:
         return error.__class__.__name__, vars(error)
 
 
 def state(thing):
     """All that is in a value, objects too."""
-    if isinstance(thing, (Tally, Rewriter, Piece)):
+    if isinstance(thing, CLASSES):
         return thing.__class__.__name__, {name: state(part) for name, part in vars(thing).items()}
     if isinstance(thing, (tuple, list)):
         return thing.__class__.__name__, [state(part) for part in thing]
+    if isinstance(thing, dict):
+        return "dict", sorted((repr(key), state(part)) for key, part in thing.items())
     return repr(thing)
 
 
@@ -97,30 +132,30 @@ def plain(thing):
     """Whether a result is built of the kinds that the document tells."""
     if type(thing) is tuple:
         return all(plain(part) for part in thing)
-    return thing is None or type(thing) in (int, str, bool, Tally, Rewriter, Piece)
+    return thing is None or type(thing) in (int, str, bool) + CLASSES
 
 
 class ConventionsTest(unittest.TestCase):
     def test_the_same_again_and_nothing_changes(self):
-        for told, arguments in CALLS:
+        for call, arguments in CALLS:
             before = state(arguments)
-            first = outcome(told, arguments)
+            first = outcome(call, arguments)
             kept = state(first)
-            self.assertEqual(state(outcome(told, arguments)), kept, told.__qualname__)
-            self.assertEqual(state(arguments), before, told.__qualname__)
-            self.assertEqual(state(outcome(told, copy.deepcopy(arguments))), kept, told.__qualname__)
+            self.assertEqual(state(outcome(call, arguments)), kept, call.__qualname__)
+            self.assertEqual(state(arguments), before, call.__qualname__)
+            self.assertEqual(state(outcome(call, copy.deepcopy(arguments))), kept, call.__qualname__)
 
     def test_kinds_of_results(self):
-        for told, arguments in CALLS:
-            found = outcome(told, arguments)
+        for call, arguments in CALLS:
+            found = outcome(call, arguments)
             if not (isinstance(found, tuple) and len(found) == 2 and isinstance(found[1], dict)):
-                self.assertTrue(plain(found), told.__qualname__)
-            name = told.__name__
+                self.assertTrue(plain(found), call.__qualname__)
+            name = call.__name__
             if name.startswith(("is_", "are_")) or name.endswith(("_hold", "_holds")):
                 self.assertIs(type(found), bool, name)
 
     def test_objects_are_equal_to_no_other_value(self):
-        for thing in (ONES, EMPTY, TWICE, Piece(ONES, ""), Piece(EMPTY, "")):
+        for thing in (ONES, EMPTY, TWICE, Piece(ONES, ""), Piece(EMPTY, ""), BOOK, HOUSE, House()):
             for other in ODDITIES:
                 if thing is not other and state(thing) != state(other):
                     self.assertIs(thing == other, False)
@@ -139,5 +174,9 @@ class ConventionsTest(unittest.TestCase):
                           relations.is_relation(GIVEN, thing), madeof.made_of_holds(ONES, GIVEN, thing),
                           madeof.by_fractions_hold(ONES, GIVEN, thing), growthpapers.growth_holds(ONES, thing),
                           bounds.bounds_hold(ODD, thing), caps.cap_holds(ODD, 1, thing),
-                          prizes.greatest_holds(ONES, 1, thing), prizes.lowest_holds(ONES, 1, thing)):
+                          prizes.greatest_holds(ONES, 1, thing), prizes.lowest_holds(ONES, 1, thing),
+                          prices.book_holds(THREE, thing), prices.are_prices(BOOK, thing),
+                          told.worths_hold(BOOK, "11", thing), told.all_holds(THREE, thing),
+                          wider.is_reading(ONES, thing), wider.order_apart_holds(VALUE, thing),
+                          wider.length_apart_holds(VALUE, thing), promises.is_promise(thing)):
                 self.assertTrue(found is False or thing in ("0", "1", "", "01"), repr(thing)[:60])

@@ -53,6 +53,16 @@ FUNCTIONS = {
                "highest_rows": "tally length", "lowest_rows": "tally length", "is_below": "tally one other",
                "judge_greatest": "tally length", "judge_lowest": "tally length",
                "greatest_holds": "tally length thing", "lowest_holds": "tally length thing"},
+    "prices": {"told_row": "book number", "are_prices": "book thing", "can_be": "book", "judge_book": "book",
+               "book_holds": "book thing", "suspects": "book"},
+    "told": {"rest_and_step": "book ticket", "judge_worths": "book ticket", "worths_hold": "book ticket thing",
+             "is_told": "book ticket", "first_open": "book", "judge_all": "book", "all_holds": "book thing"},
+    "asked": {"to_ask": "book", "is_lot": "book thing", "is_enough": "book lot", "is_cheapest": "book lot",
+              "cost_of": "lot", "asked": "book lot prices"},
+    "wider": {"is_reading": "tally thing", "read_through": "tally reading", "merged": "tally kept other",
+              "symmetries": "tally", "is_free_of_order": "tally", "is_by_length": "tally", "order_apart": "tally",
+              "length_apart": "tally", "order_apart_holds": "tally thing", "length_apart_holds": "tally thing"},
+    "promises": {"is_promise": "thing", "fault_of": "tally promise before others"},
 }
 CLASSES = {
     "tallies": {"Tally": {"__init__": "self digits start tables ends", "__len__": "self", "__eq__": "self other",
@@ -63,6 +73,13 @@ CLASSES = {
     "rewriters": {"Rewriter": {"__init__": "self digits written size moves ends", "__eq__": "self other",
                                "__str__": "self", "read": "cls text", "ways": "self ticket",
                                "rewritings": "self ticket"}},
+    "prices": {"Book": {"__init__": "self tally told", "__len__": "self", "__eq__": "self other",
+                        "with_told": "self low high amount", "without": "self number"}},
+    "house": {"House": {"__init__": "self", "keep": "self name tally", "add_edition": "self name tally",
+                        "make_promise": "self name promise", "release": "self name promise", "drop": "self name",
+                        "undo": "self", "log": "self", "of": "cls log", "trial": "self", "gate": "self name tally",
+                        "names": "self", "tariff_now": "self name", "editions": "self name", "promises": "self name",
+                        "__eq__": "self other", "__len__": "self"}},
 }
 
 
@@ -96,9 +113,12 @@ class InterfaceTest(unittest.TestCase):
         tally = importlib.import_module("tallyhouse.tallies").Tally
         piece = importlib.import_module("tallyhouse.pieces").Piece
         rewriter = importlib.import_module("tallyhouse.rewriters").Rewriter
-        for made in (tally, piece, rewriter):
+        book = importlib.import_module("tallyhouse.prices").Book
+        house = importlib.import_module("tallyhouse.house").House
+        for made in (tally, piece, rewriter, book, house):
             self.assertFalse(hasattr(made, "__iter__") or hasattr(made, "__getitem__"))
         self.assertIsInstance(inspect.getattr_static(rewriter, "read"), classmethod)
         self.assertIsInstance(inspect.getattr_static(tally, "is_count"), property)
         self.assertIsInstance(inspect.getattr_static(piece, "worth_now"), property)
         self.assertIsInstance(inspect.getattr_static(tally, "read"), classmethod)
+        self.assertIsInstance(inspect.getattr_static(house, "of"), classmethod)

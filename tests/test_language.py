@@ -1,6 +1,6 @@
 """Looks over the package's files for what ../shared/LANGUAGE.md bars, as far as a look at the code can tell.
 
-It is stricter than the document where the package does not need a thing at all (generators, lambdas, handlers).
+It is stricter than the document where the package does not need a thing at all (generators, lambdas).
 """
 
 import ast
@@ -22,7 +22,7 @@ BARRED = set("""register mro elements open input law version_info with_traceback
 WORDS = set("""type typing typing_extensions enum Enum IntEnum StrEnum Flag IntFlag Generic Protocol ABC ABCMeta
     namedtuple NamedTuple TypedDict TYPE_CHECKING abstractmethod""".split())
 BARRED_NODES = (ast.GeneratorExp, ast.Yield, ast.YieldFrom, ast.Lambda, ast.Global, ast.Nonlocal, ast.AsyncFor,
-                ast.AsyncFunctionDef, ast.AsyncWith, ast.Await, ast.Try, ast.With, ast.Match, ast.Import, ast.AnnAssign,
+                ast.AsyncFunctionDef, ast.AsyncWith, ast.Await, ast.With, ast.Match, ast.Import, ast.AnnAssign,
                 ast.Div, ast.MatMult, ast.Starred, ast.NamedExpr, ast.Set, ast.SetComp, ast.Assert, ast.Delete)
 CHANGES = {"append", "pop", "extend", "insert", "clear", "update", "remove", "reverse", "setdefault"}
 
@@ -142,6 +142,22 @@ class LanguageTest(unittest.TestCase):
                 self.assertLessEqual(len(node.bases), 1)
             if isinstance(node, (ast.FunctionDef, ast.ClassDef)):
                 self.assertTrue(node.name.startswith("__") or ast.get_docstring(node), self.told(name, node))
+
+    def test_errors_that_are_caught_and_raised(self):
+        own = {node.name for node in self.trees["errors.py"].body if isinstance(node, ast.ClassDef)}
+        for name, node in self.nodes():
+            if isinstance(node, ast.Try):
+                self.assertEqual((node.finalbody, node.orelse), ([], []), self.told(name, node))
+                for handler in node.handlers:
+                    self.assertIsNone(handler.name, self.told(name, node))
+                    self.assertIsInstance(handler.type, ast.Name, self.told(name, node))
+                    self.assertIn(handler.type.id, own, self.told(name, node))
+            if isinstance(node, ast.Raise):
+                self.assertIsInstance(node.exc, ast.Call, self.told(name, node))
+                self.assertIn(node.exc.func.id, own, self.told(name, node))
+                self.assertEqual(node.exc.keywords, [], self.told(name, node))
+            if isinstance(node, ast.ClassDef) and name == "errors.py":
+                self.assertIn(node.bases[0].id, own | {"Exception"})
 
     def test_strings(self):
         for name, node in self.nodes():
