@@ -42,23 +42,22 @@ def merged(tally, kept, other):
     return Tally("".join([digit for digit in tally.digits if digit != other]), tally.start, tuple(tables), tally.ends)
 
 
-def orders_of(digits):
-    """All strings that have each of the digits once, ascending."""
-    if digits == "":
-        return [""]
-    return [digit + order for digit in digits for order in orders_of(digits.replace(digit, ""))]
-
-
 def exchanged_by(tally, order):
-    """The tally by which a ticket is worth what it is with each digit exchanged for the one of the order."""
+    """The tally over its first digits, as many as the order has, by which each stands for the one of the order."""
     tables = tuple([tally.tables[tally.digits.index(digit)] for digit in order])
-    return Tally(tally.digits, tally.start, tables, tally.ends)
+    return Tally(tally.digits[:len(order)], tally.start, tables, tally.ends)
 
 
 def symmetries(tally):
     """The ascending tuple of the symmetries."""
     told = least(tally)
-    return tuple([order for order in orders_of(tally.digits) if are_same(told, exchanged_by(told, order))])
+    orders = [""]
+    # Digit by digit: the beginning of a symmetry leaves the worths of the tickets over as many first digits.
+    for many in range(1, len(told.digits) + 1):
+        plain = exchanged_by(told, told.digits[:many])
+        longer = [order + digit for order in orders for digit in told.digits if digit not in order]
+        orders = [order for order in longer if are_same(plain, exchanged_by(told, order))]
+    return tuple(orders)
 
 
 def is_free_of_order(tally):

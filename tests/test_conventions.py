@@ -3,14 +3,16 @@
 import copy
 import unittest
 
-from tallyhouse import (answers, asked, bounds, caps, doubling, growthpapers, lattices, leasts, madeof, making, pieces,
-                        powers, prices, prizes, promises, ranges, relations, rewriters, sames, singles, takings, tickets,
-                        told, useful, wider)
+from tallyhouse import (answers, asked, bookfindings, bounds, caps, doubling, findings, growthfindings, growthpapers,
+                        lattices, leasts, madeof, making, pieces, powers, prices, prizes, promises, ranges, relations,
+                        rewriters, rowfindings, sames, singles, takings, tickets, told, useful, wider)
+from tallyhouse.console import Console
 from tallyhouse.errors import TallyError
 from tallyhouse.house import House
 from tallyhouse.pieces import Piece
 from tallyhouse.prices import Book
 from tallyhouse.rewriters import Rewriter
+from tallyhouse.sales import Till
 from tallyhouse.tallies import Tally
 from tests.book_samples import BOOK, EIGHT, THREE
 from tests.samples import BOTH, DIGITSUM, EMPTY, LENGTH, ODD, ODDITIES, ONES, TWICE, TWOS, VALUE, ZEROS
@@ -20,6 +22,14 @@ ROWS = ((2, 4, 0), (0, 3, 1), (2, 1, -1))
 HOUSE = House()
 HOUSE.keep("ones", ONES)
 HOUSE.make_promise("ones", ("degree", 1))
+TILL = Till(ONES)
+TILL.sell("00", "01")
+TILL.set_tariff(VALUE)
+TILL.sell("11", "11")
+TILL.undo()
+CONSOLE = Console()
+CONSOLE.run("keep ones " + str(ONES).replace("\n", ";"))
+CONSOLE.run("tell ones 00 01 5")
 CALLS = [
     (tickets.are_digits, ("01",)), (tickets.is_ticket, ("01", "0")), (tickets.roll, ("01", 3)),
     (tickets.is_ahead, ("1", "00")), (Tally, ("0", (1,), (((1,),),), (2,))), (Tally, ("0", [1], (), ())),
@@ -102,11 +112,20 @@ CALLS = [
     (House.promises, (HOUSE, "ones")), (House.trial, (HOUSE,)), (House.make_promise, (HOUSE, "ones", ("rank", 1))),
     (House.make_promise, (HOUSE, "ones", [])), (House.keep, (HOUSE, "ones", ONES)), (House.drop, (HOUSE, ("ones",))),
     (House.release, (HOUSE, "ones", ("rank", 2))), (House.add_edition, (HOUSE, "ones", VALUE)),
-    (House.add_edition, (HOUSE, "ones", DIGITSUM)),
+    (House.add_edition, (HOUSE, "ones", DIGITSUM)), (Till.would_pay, (TILL, "00", "11")), (Till.sell, (TILL, "01", "10")),
+    (Till.sell, (TILL, "1", 0)), (Till.take_back, (TILL, "00", "10")), (Till.set_tariff, (TILL, DIGITSUM)),
+    (Till.takings, (TILL,)), (Till.sold, (TILL, 2)), (Till.many_sold, (TILL, 2)), (Till.first_free, (TILL, 2)),
+    (Till.is_sold, (TILL, "01")), (Till.paid, (TILL, "01")), (Till.log, (TILL,)), (Till.trial, (TILL,)),
+    (Till.of, (ONES, (("sell", "0", "1"),))), (Till.of, (ONES, (("sell", "0", "2"),))), (Console.house_now, (CONSOLE,)),
+    (Console.run, (CONSOLE, "worths ones 11")), (Console.run, (CONSOLE, "ask ones")), (Console.run, (CONSOLE, "worths no 11")),
+    (Console.run, (CONSOLE, None)), (Console.run, (CONSOLE, "promise ones cap 3")), (Console.run, (CONSOLE, "worth ones 2")),
+    (rowfindings.row_finding_holds, (("rank", str(ONES), 2),)), (findings.finding_holds, (("rank", str(ONES), 2),)),
+    (growthfindings.growth_finding_holds, (("bounds", str(ODD), ("bounded", ((0, 1), (1, 0)))),)),
+    (bookfindings.book_finding_holds, (("lot", str(ONES), (), ("", "1")),)),
 ]
 
 
-CLASSES = (Tally, Rewriter, Piece, Book, House)
+CLASSES = (Tally, Rewriter, Piece, Book, House, Till, Console)
 
 
 def outcome(call, arguments):
@@ -155,7 +174,7 @@ class ConventionsTest(unittest.TestCase):
                 self.assertIs(type(found), bool, name)
 
     def test_objects_are_equal_to_no_other_value(self):
-        for thing in (ONES, EMPTY, TWICE, Piece(ONES, ""), Piece(EMPTY, ""), BOOK, HOUSE, House()):
+        for thing in (ONES, EMPTY, TWICE, Piece(ONES, ""), Piece(EMPTY, ""), BOOK, HOUSE, House(), TILL, CONSOLE):
             for other in ODDITIES:
                 if thing is not other and state(thing) != state(other):
                     self.assertIs(thing == other, False)
@@ -178,5 +197,6 @@ class ConventionsTest(unittest.TestCase):
                           prices.book_holds(THREE, thing), prices.are_prices(BOOK, thing),
                           told.worths_hold(BOOK, "11", thing), told.all_holds(THREE, thing),
                           wider.is_reading(ONES, thing), wider.order_apart_holds(VALUE, thing),
-                          wider.length_apart_holds(VALUE, thing), promises.is_promise(thing)):
+                          wider.length_apart_holds(VALUE, thing), promises.is_promise(thing),
+                          findings.finding_holds(thing), TILL.is_sold(thing)):
                 self.assertTrue(found is False or thing in ("0", "1", "", "01"), repr(thing)[:60])

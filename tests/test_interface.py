@@ -63,6 +63,8 @@ FUNCTIONS = {
               "symmetries": "tally", "is_free_of_order": "tally", "is_by_length": "tally", "order_apart": "tally",
               "length_apart": "tally", "order_apart_holds": "tally thing", "length_apart_holds": "tally thing"},
     "promises": {"is_promise": "thing", "fault_of": "tally promise before others"},
+    "rowfindings": {"row_finding_holds": "thing"}, "growthfindings": {"growth_finding_holds": "thing"},
+    "bookfindings": {"book_finding_holds": "thing"}, "findings": {"finding_holds": "thing"},
 }
 CLASSES = {
     "tallies": {"Tally": {"__init__": "self digits start tables ends", "__len__": "self", "__eq__": "self other",
@@ -80,6 +82,12 @@ CLASSES = {
                         "undo": "self", "log": "self", "of": "cls log", "trial": "self", "gate": "self name tally",
                         "names": "self", "tariff_now": "self name", "editions": "self name", "promises": "self name",
                         "__eq__": "self other", "__len__": "self"}},
+    "sales": {"Till": {"__init__": "self tally", "tariff": "self", "__len__": "self", "sell": "self low high",
+                       "take_back": "self low high", "set_tariff": "self tally", "undo": "self", "redo": "self",
+                       "takings": "self", "sold": "self length", "many_sold": "self length", "first_free": "self length",
+                       "is_sold": "self thing", "paid": "self thing", "would_pay": "self low high", "log": "self",
+                       "of": "cls tally log", "trial": "self", "__eq__": "self other"}},
+    "console": {"Console": {"__init__": "self", "run": "self command", "house_now": "self"}},
 }
 
 
@@ -115,10 +123,14 @@ class InterfaceTest(unittest.TestCase):
         rewriter = importlib.import_module("tallyhouse.rewriters").Rewriter
         book = importlib.import_module("tallyhouse.prices").Book
         house = importlib.import_module("tallyhouse.house").House
-        for made in (tally, piece, rewriter, book, house):
+        till = importlib.import_module("tallyhouse.sales").Till
+        console = importlib.import_module("tallyhouse.console").Console
+        for made in (tally, piece, rewriter, book, house, till, console):
             self.assertFalse(hasattr(made, "__iter__") or hasattr(made, "__getitem__"))
         self.assertIsInstance(inspect.getattr_static(rewriter, "read"), classmethod)
         self.assertIsInstance(inspect.getattr_static(tally, "is_count"), property)
         self.assertIsInstance(inspect.getattr_static(piece, "worth_now"), property)
         self.assertIsInstance(inspect.getattr_static(tally, "read"), classmethod)
         self.assertIsInstance(inspect.getattr_static(house, "of"), classmethod)
+        self.assertIsInstance(inspect.getattr_static(till, "of"), classmethod)
+        self.assertIsInstance(inspect.getattr_static(till, "tariff"), property)
