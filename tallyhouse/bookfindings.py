@@ -59,7 +59,7 @@ def are_symmetries(thing):
     """Whether ("symmetries", T, orders) holds."""
     word, text, orders = thing
     tally = tally_of(text)
-    return tally is not None and isinstance(orders, tuple) and symmetries(tally) == orders
+    return tally is not None and symmetries(tally) == orders
 
 
 # By the word of a finding and how many parts it has, the word counted.

@@ -15,10 +15,9 @@ FORMS = {
     "worths": ("name", "ticket"), "open": ("name",), "ask": ("name",),
 }
 MOST_FIGURES = 40
-GREATEST = 10 ** 40 - 1
-# The least and the greatest integer of each kind.
-LEAST = {"number": -GREATEST, "amount": 1, "roll": 0, "prize": 0, "promised": 0}
-MOST = {"number": GREATEST, "amount": GREATEST, "roll": 40, "prize": 30, "promised": GREATEST}
+# The least and the greatest integer of each kind, where there is one.
+LEAST = {"amount": 1, "roll": 0, "prize": 0, "promised": 0}
+MOST = {"roll": 40, "prize": 30}
 
 
 def command_of(thing):
@@ -73,7 +72,7 @@ def number_of(kind, text):
     if not is_number_text(text) or len(text.removeprefix("-")) > MOST_FIGURES:
         raise InvalidCommand()
     number = number_in(text)
-    if not LEAST[kind] <= number <= MOST[kind]:
+    if number < LEAST.get(kind, number) or number > MOST.get(kind, number):
         raise InvalidCommand()
     return number
 

@@ -111,7 +111,7 @@ class House:
         if tally.digits != tariffs[name][0][-1].digits:
             raise OtherDigits()
         changed = with_edition(tariffs, name, tally)
-        for other in [name] + [other for other in sorted(tariffs) if other != name]:
+        for other in [name] + [word for word in sorted(tariffs) if word != name]:
             for promise, before in changed[other][1]:
                 if other == name or does_name(promise, name):
                     fault = fault_of(changed[other][0][-1], promise, before, others_of(changed, promise))
@@ -190,7 +190,7 @@ def others_of(tariffs, promise):
 
 def can_do(house, thing):
     """Whether any value is a deed that can be done by a house; if so, it is done."""
-    if not isinstance(thing, tuple) or not 2 <= len(thing) <= 3 or not isinstance(thing[0], str):
+    if not isinstance(thing, tuple) or len(thing) == 0:
         return False
     try:
         if thing[0] == "drop" and len(thing) == 2:

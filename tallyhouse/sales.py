@@ -169,7 +169,7 @@ def with_roll(rolls, length, sold):
 
 def can_do(till, thing):
     """Whether any value is a deed that can be done by a till; if so, it is done."""
-    if not isinstance(thing, tuple) or not 2 <= len(thing) <= 3 or not isinstance(thing[0], str):
+    if not isinstance(thing, tuple) or len(thing) == 0:
         return False
     try:
         if thing[0] == "sell" and len(thing) == 3:

@@ -126,11 +126,11 @@ def first_open(book):
 
 def judge_all(book):
     """A paper "all", or "open" with the first ticket."""
-    pair = first_open_pair(book)
-    if pair is not None:
-        ticket, row = pair
-        further = [prices for prices in free_prices(book) if product_of(row, prices) != 0][0]
-        return ("open", ticket, noughts(len(row)), further)
+    found = first_open_pair(book)
+    if found is not None:
+        first, open_row = found
+        further = [prices for prices in free_prices(book) if product_of(open_row, prices) != 0]
+        return ("open", first, noughts(len(open_row)), further[0])
     # The empty ticket is asked for also if its row has noughts alone, and tells nothing.
     pairs = [("", book.tally.start)] + [pair for pair in telling_rows(book.tally) if pair[0] != ""]
     rows = [row for ticket, row in pairs]

@@ -407,6 +407,10 @@ class ErrorsTest(unittest.TestCase):
                       text + " 0", text.replace("01", "10", 1), str(ONES).replace("\n", " "), text + "~"):
             self.invalid(console, "keep new " + other)
             self.invalid(console, "edition ones " + other)
+        # line feeds stand in no command, wherever they would be right
+        for other in (str(ONES), text.replace(";", "\n", 1), str(nought("01")), text + "\n"):
+            self.invalid(console, "keep new " + other)
+            self.invalid(console, "edition ones " + other)
         for tally in (DIGITSUM, TWOS, Tally("02", ONES.start, ONES.tables, ONES.ends)):
             self.invalid(console, "edition ones " + words_of(tally))
         self.assertEqual(console.run("names"), "ones")

@@ -309,6 +309,9 @@ class FindingsTest(unittest.TestCase):
         self.assertIs(finding_holds(("through", str(VALUE), str(kept("012")), str(VALUE))), False)
         self.assertIs(finding_holds(("through", str(VALUE), str(kept("01")), str(DIGITSUM))), False)
         self.assertIs(finding_holds(("through", str(VALUE), str(kept("01")), str(VALUE))), True)
+        wide = str(Rewriter("01", "012", 1, ((0, "0", "0", 0), (0, "1", "2", 0)), (0,)))
+        self.assertIs(finding_holds(("through", str(VALUE), wide, str(VALUE))), False)
+        self.assertIs(finding_holds(("through", str(DIGITSUM), wide, str(times(2, ONES)))), True)
         self.assertIs(finding_holds(("made of", str(DIGITSUM), (str(ONES),), ("made", (0,)))), False)
         self.assertIs(finding_holds(("by fractions", str(DIGITSUM), (str(ONES),), ("made", ((0, 1),)))), False)
 
@@ -340,6 +343,8 @@ class FindingsTest(unittest.TestCase):
             self.assertIs(finding_holds(("cap", one, cap, ("within", ((1,),)))), right)
         for amount, right in ((3, True), (True, False), (0, False), (-3, False), ("3", False), (2, False), (10 ** 39, True)):
             self.assertIs(finding_holds(("takings", one, "00", amount, ("at", "10", 2) if amount == 3 else ("never", 4))), right)
+        for amount in (0, -1, -10 ** 39):
+            self.assertIs(finding_holds(("takings", one, "00", amount, ("at", "00", 0))), False)
 
     def test_machines(self):
         self.assertIs(finding_holds(("machine", str(ODD), ((0, 1), (1, 0)), (0, 1))), True)

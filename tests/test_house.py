@@ -119,7 +119,7 @@ class TariffsTest(unittest.TestCase):
 
     def test_drop_what_is_needed(self):
         house = House()
-        for name, tally in (("len", LENGTH), ("ones", ONES), ("noughts", ZEROS), ("zeros", ZEROS)):
+        for name, tally in (("zeros", ZEROS), ("noughts", ZEROS), ("len", LENGTH), ("ones", ONES)):
             house.keep(name, tally)
         house.make_promise("zeros", ("made of", ("len", "ones")))
         house.make_promise("noughts", ("made of", ("len", "ones", "zeros")))
@@ -318,6 +318,8 @@ class DeedsTest(unittest.TestCase):
                                            ("drop", "all"), ("keep", "all", str(DIGITSUM))))
         while len(house):
             self.assertEqual(full_state(house), states[len(house)])
+            self.assertEqual(full_state(House.of(house.log())), states[len(house)])
+            self.assertTrue(House.of(house.log()) == house)
             self.assertIsNone(house.undo())
         self.assertEqual(full_state(house), states[0])
         for _ in range(2):
@@ -382,7 +384,10 @@ class DeedsTest(unittest.TestCase):
                                 ("promise", "price", ("degree", 0)), ("promise", "price", None), ("promise", "price"),
                                 ("promise", None, ("rank", 2)), ("release", "price", ("rank", 2)), ("release", "all", ("cap", 1)),
                                 ("release", "price", ("degree", True)), ("release", "price"), (["drop"], "all"),
-                                ("promise", "price", ("made of", ("none",))), ("names", "all"), ("keep", ["new"], str(ONE))):
+                                ("promise", "price", ("made of", ("none",))), ("names", "all"), ("keep", ["new"], str(ONE)),
+                                ("Release", "price", ("degree", 1)), ("make", "price", ("rank", 2)), ("", "price", ("degree", 1)),
+                                ("edition", "price", str(LENGTH), 0), ("promise", "price", ("rank", 2), 0),
+                                ("release", "price", ("degree", 1), 0), ("edition", "price"), (None, "price", ("degree", 1))):
             self.assertEqual(outcome(House.of, log + (deed,)), ("BadDeed", {"number": 3}), repr(deed))
             self.assertEqual(outcome(House.of, log + (deed,) + log), ("BadDeed", {"number": 3}))
         self.assertEqual(outcome(House.of, (("keep", "a", ""),) + log), ("BadDeed", {"number": 0}))
@@ -453,6 +458,8 @@ class DeedsTest(unittest.TestCase):
                              for thing in (house, model)]
                 elif kind in ("promise", "release"):
                     promise = chance.choice(promises)
+                    if kind == "release" and name in model.kept and model.kept[name][1] and chance.random() < 0.8:
+                        promise = chance.choice(model.kept[name][1])[0]
                     found = [outcome({"promise": thing.make_promise, "release": thing.release}[kind], name, promise)
                              for thing in (house, model)]
                 elif kind == "drop":

@@ -242,3 +242,37 @@ class LanguageTest(unittest.TestCase):
                     attributes = {inner.attr for inner in ast.walk(node)
                                   if isinstance(inner, ast.Attribute) and isinstance(inner.ctx, ast.Store)}
                     self.assertFalse(methods & attributes, node.name)
+
+    def test_methods_and_attributes_of_all_classes_have_unlike_names(self):
+        methods, attributes = set(), set()
+        for name, node in self.nodes():
+            if isinstance(node, ast.ClassDef):
+                methods |= {inner.name for inner in node.body if isinstance(inner, ast.FunctionDef)}
+            if isinstance(node, ast.Attribute) and isinstance(node.ctx, ast.Store):
+                attributes.add(node.attr)
+        self.assertFalse(methods & attributes)
+        for name, node in self.nodes():
+            if isinstance(node, ast.Attribute) and isinstance(node.ctx, ast.Load):
+                self.assertIn(node.attr, methods | attributes | METHODS, self.told(name, node))
+
+    def test_tables_at_module_level_are_plain_and_only_read(self):
+        for name, tree in self.trees.items():
+            tables = set()
+            functions = {node.name for node in tree.body if isinstance(node, ast.FunctionDef)}
+            for node in tree.body:
+                if isinstance(node, ast.Assign):
+                    inner = [part for part in ast.walk(node.value) if part is not node.value]
+                    self.assertFalse([part for part in inner if isinstance(part, (ast.List, ast.Dict, ast.Call))],
+                                     self.told(name, node))
+                    self.assertLessEqual({part.id for part in inner if isinstance(part, ast.Name)}, functions)
+                    if isinstance(node.value, (ast.List, ast.Dict)):
+                        tables.add(node.targets[0].id)
+            for node in ast.walk(tree):
+                for child in ast.iter_child_nodes(node):
+                    if isinstance(child, ast.Name) and child.id in tables and isinstance(child.ctx, ast.Load):
+                        read = (isinstance(node, ast.Subscript) and isinstance(node.ctx, ast.Load)
+                                or isinstance(node, ast.Compare)
+                                or isinstance(node, ast.Attribute) and node.attr == "get")
+                        self.assertTrue(read, self.told(name, node))
+                if isinstance(node, ast.Call):
+                    self.assertNotIsInstance(node.func, ast.Subscript, self.told(name, node))

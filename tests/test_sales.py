@@ -390,6 +390,24 @@ class TillTest(unittest.TestCase):
         self.assertTrue(one == other)
         one.set_tariff(ZEROS)
         self.assertFalse(one == other)
+        # by stretches side by side behind and between other ones
+        one, other = Till(ONES), Till(ONES)
+        for till, stretches in ((one, (("001", "001"), ("011", "101"), ("111", "111"))),
+                                (other, (("111", "111"), ("001", "001"), ("011", "011"), ("101", "101"), ("100", "100")))):
+            for low, high in stretches:
+                till.sell(low, high)
+        self.assertTrue(one == other)
+        # by two tariffs, the first one behind the other one again
+        one, other = Till(ONES), Till(ONES)
+        for till, middle in ((one, (("010", "101"),)), (other, (("010", "011"), ("100", "101")))):
+            till.sell("000", "001")
+            till.set_tariff(VALUE)
+            for low, high in middle:
+                till.sell(low, high)
+            till.set_tariff(ONES)
+            till.sell("110", "110")
+            self.assertEqual([till.paid(ticket) for ticket in ("001", "011", "101", "110")], [1, 3, 5, 2])
+        self.assertTrue(one == other)
         self.assertTrue(Till(EMPTY) == Till(nought("01")))
         self.assertFalse(Till(EMPTY) == Till(nought("02")))
         for thing in ODDITIES + (ONES, one.log()):

@@ -74,6 +74,9 @@ class WorthsTest(unittest.TestCase):
         # twice the step, and steps that go down, are none
         self.assertIs(worths_hold(BOOK, "11", ("worths", 4, 6, (0, 5), (-2, 9), ((2, 1),))), False)
         self.assertIs(worths_hold(BOOK, "11", ("worths", 1, 3, (-1, 7), (0, 5), ((2, 1),))), False)
+        self.assertIs(worths_hold(BOOK, "11", ("worths", -2, -3, (-1, 7), (0, 5), ((2, 1),))), False)
+        self.assertIs(worths_hold(BOOK, "0", ("worths", 0, -1, (1, 3), (0, 5), ((0, 1),))), False)
+        self.assertIs(worths_hold(BOOK, "0", ("worths", 0, 1, (0, 5), (1, 3), ((0, 1),))), True)
         # by the parts alone, or by the prices alone, another step would do
         self.assertIs(worths_hold(BOOK, "11", ("worths", 0, 1, (0, 5), (-1, 7), ((2, 1),))), False)
         self.assertIs(worths_hold(BOOK, "01", ("worths", 0, 1, (0, 5), (1, 3), ((0, 1),))), False)
