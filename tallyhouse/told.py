@@ -28,7 +28,7 @@ def free_prices(book):
     return kernel_of(told_rows(book), len(book.tally))
 
 
-def step_by(changes):
+def greatest_step(changes):
     """The greatest common divisor of the numbers by which a worth can change."""
     step = 0
     for change in changes:
@@ -45,7 +45,7 @@ def rest_and_step(book, ticket):
     """The pair (rest, step) of what a ticket can be worth; raises CannotBe with a paper "cannot"."""
     prices = prices_of(book)
     row = book.tally.row(ticket)
-    step = step_by(products_of(free_prices(book), row))
+    step = greatest_step(products_of(free_prices(book), row))
     return (rest_by(product_of(row, prices), step), step)
 
 
@@ -55,7 +55,7 @@ def judge_worths(book, ticket):
     row = book.tally.row(ticket)
     free = free_prices(book)
     changes = products_of(free, row)
-    step = step_by(changes)
+    step = greatest_step(changes)
     further, left = prices, row
     if step > 0:
         numbers = numbers_for(tuple([(change,) for change in changes]), (step,))
